@@ -1,0 +1,1 @@
+"""Rings of heights, their swings, and smoothing within a tolerance."""

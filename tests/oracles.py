@@ -1,0 +1,147 @@
+"""What the document says, written as plainly as possible and without the package, to compare with."""
+
+import itertools
+import random
+
+LIMIT = 10 ** 9
+
+# Values of all kinds that the document calls "any value", none of them a ring, a removal or a collection.
+OTHER_VALUES = (
+    None,
+    True,
+    False,
+    0,
+    1,
+    -1,
+    10 ** 30 - 1,
+    "",
+    "tuple",
+    "01",
+    "a\nb",
+    "x" * 2000,
+    [],
+    [0],
+    [0, 5],
+    [(0, 5)],
+    [[0, 1]],
+    {},
+    {"0": 0},
+    {"a": (0, 1), "b": [None, {"c": True}]},
+    (None,),
+    (True,),
+    (False,),
+    ("0",),
+    ("01",),
+    ([0],),
+    ([0, 1],),
+    ({},),
+    ({"a": 1},),
+    ((),),
+    ((0,),),
+    ((0, 1, 2),),
+    ((None, None),),
+    (((0, 1),),),
+    ((False, True),),
+    ((0, True),),
+    ((False, 1),),
+    (("0", "1"),),
+    (([0], [1]),),
+    (((0,), (1,)),),
+    tuple([None] * 999),
+    [None] * 999,
+)
+
+
+def nested_values():
+    """A tuple, a list and a dict, nested twenty levels deep."""
+    deep_tuple, deep_list, deep_dict = (), [], {}
+    for _ in range(19):
+        deep_tuple, deep_list, deep_dict = (deep_tuple,), [deep_list], {"a": deep_dict}
+    return [deep_tuple, deep_list, deep_dict]
+
+
+def all_rings(longest, heights):
+    for length in range(1, longest + 1):
+        yield from itertools.product(heights, repeat=length)
+
+
+def mixed_rings(count):
+    """The same rings each time: short and long, with few and many different heights."""
+    source = random.Random(2026)
+    for _ in range(count):
+        length = source.choice((1, 2, 3, 6, 12, 23, 24))
+        top = source.choice((1, 2, 5, 30, LIMIT))
+        bottom = source.choice((0, -top))
+        yield tuple([source.randint(bottom, top) for _ in range(length)])
+
+
+def kind_of_place(ring, place):
+    """'peak', 'valley' or None, by looking for the first different heights in both directions."""
+    length = len(ring)
+    height = ring[place]
+    befores = [ring[(place - step) % length] for step in range(1, length)]
+    afters = [ring[(place + step) % length] for step in range(1, length)]
+    if not befores or befores[0] == height:
+        return None
+    before = [other for other in befores if other != height][0]
+    after = [other for other in afters if other != height][0]
+    if before < height and after < height:
+        return "peak"
+    if before > height and after > height:
+        return "valley"
+    return None
+
+
+def turns(ring):
+    return tuple([place for place in range(len(ring)) if kind_of_place(ring, place)])
+
+
+def passages(ring, low, high):
+    """The last of each row of low places that is followed by a high place, middle places left out."""
+    marked = [place for place, height in enumerate(ring) if height <= low or height >= high]
+    found = []
+    for at, place in enumerate(marked):
+        following = marked[(at + 1) % len(marked)]
+        if ring[place] <= low and ring[following] >= high:
+            found.append(place)
+    return tuple(found)
+
+
+def thresholds(rings):
+    """Thresholds that are heights, lie beside and between them, and lie outside."""
+    heights = {height for ring in rings for height in ring}
+    numbers = {height + by for height in heights for by in (-1, 0, 1)} | {-10 ** 29, 10 ** 29}
+    return list(itertools.combinations(sorted(numbers), 2))
+
+
+def swings(ring):
+    """The swings, from the numbers of passages: those that are counted at (low, high) but not farther out."""
+    heights = sorted(set(ring))
+    found = []
+    for low, high in itertools.combinations(heights, 2):
+        exactly = (len(passages(ring, low, high)) - len(passages(ring, low - 1, high))
+                   - len(passages(ring, low, high + 1)) + len(passages(ring, low - 1, high + 1)))
+        found.extend([(low, high)] * exactly)
+    return tuple(sorted(found))
+
+
+def is_between(height, one, other):
+    return min(one, other) <= height <= max(one, other)
+
+
+def removals(ring, left=None):
+    """All removals of a ring, by the words of point 8."""
+    if left is None:
+        left = turns(ring)
+    if not left:
+        return [()]
+    found = []
+    for at in range(len(left)):
+        q, r = left[at], left[(at + 1) % len(left)]
+        p, s = left[at - 1], left[(at + 2) % len(left)]
+        if len(left) >= 4 and not (is_between(ring[r], ring[p], ring[q]) and is_between(ring[q], ring[r], ring[s])):
+            continue
+        pair = (q, r) if kind_of_place(ring, q) == "valley" else (r, q)
+        rest = tuple([turn for turn in left if turn not in pair])
+        found.extend([(pair,) + others for others in removals(ring, rest)])
+    return sorted(set(found))
