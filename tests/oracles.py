@@ -129,19 +129,54 @@ def is_between(height, one, other):
     return min(one, other) <= height <= max(one, other)
 
 
-def removals(ring, left=None):
-    """All removals of a ring, by the words of point 8."""
-    if left is None:
-        left = turns(ring)
-    if not left:
-        return [()]
+def next_pairs(ring, left):
+    """The pairs (valley, peak) that may be removed next, by the words of point 8."""
     found = []
     for at in range(len(left)):
         q, r = left[at], left[(at + 1) % len(left)]
         p, s = left[at - 1], left[(at + 2) % len(left)]
-        if len(left) >= 4 and not (is_between(ring[r], ring[p], ring[q]) and is_between(ring[q], ring[r], ring[s])):
-            continue
-        pair = (q, r) if kind_of_place(ring, q) == "valley" else (r, q)
-        rest = tuple([turn for turn in left if turn not in pair])
-        found.extend([(pair,) + others for others in removals(ring, rest)])
+        if len(left) == 2 or is_between(ring[r], ring[p], ring[q]) and is_between(ring[q], ring[r], ring[s]):
+            found.append((q, r) if kind_of_place(ring, q) == "valley" else (r, q))
     return sorted(set(found))
+
+
+def without(left, pair):
+    return tuple([turn for turn in left if turn not in pair])
+
+
+def removals(ring, left=None):
+    """All removals of a ring."""
+    if left is None:
+        left = turns(ring)
+    if not left:
+        return [()]
+    return [(pair,) + rest for pair in next_pairs(ring, left) for rest in removals(ring, without(left, pair))]
+
+
+def is_removal(ring, pairs):
+    """Whether a tuple of pairs of places is a removal."""
+    left = turns(ring)
+    for pair in pairs:
+        if pair not in next_pairs(ring, left):
+            return False
+        left = without(left, pair)
+    return left == ()
+
+
+def mixed_removals(ring, count):
+    """Some removals of a ring, the same ones each time, that take the pairs in various orders."""
+    source = random.Random(2027)
+    for _ in range(count):
+        left, pairs = turns(ring), []
+        while left:
+            pairs.append(source.choice(next_pairs(ring, left)))
+            left = without(left, pairs[-1])
+        yield tuple(pairs)
+
+
+def with_two_exchanged(pairs):
+    """The tuples of pairs in which two neighbouring pairs have changed places, or have exchanged their peaks."""
+    for at in range(len(pairs) - 1):
+        one, other = pairs[at], pairs[at + 1]
+        yield pairs[:at] + (other, one) + pairs[at + 2:]
+        yield pairs[:at] + ((one[0], other[1]), (other[0], one[1])) + pairs[at + 2:]

@@ -5,7 +5,8 @@ import unittest
 
 from ringswings.swings import (are_alike, count_passages, find_difference, find_removal, passage_places,
                                removal_holds, swings_of)
-from tests.oracles import LIMIT, all_rings, mixed_rings, passages, removals, swings, thresholds, turns
+from tests.oracles import (LIMIT, all_rings, is_removal, mixed_removals, mixed_rings, passages, removals, swings,
+                           thresholds, turns, with_two_exchanged)
 
 R = (0, 5, 2, 7, 1, 3)
 FAR = 10 ** 30 - 1
@@ -167,11 +168,25 @@ class RemovalTest(unittest.TestCase):
                     value = tuple(zip(lows, highs))
                     self.assertIs(removal_holds(ring, value), value in expected, (ring, value))
 
+    def check_shows_the_swings(self, ring, removal):
+        self.assertIs(removal_holds(ring, removal), True, (ring, removal))
+        self.assertEqual(tuple(sorted((ring[valley], ring[peak]) for valley, peak in removal)), swings_of(ring))
+
     def test_all_removals_show_the_same_swings(self):
-        for ring in [*all_rings(6, (0, 1, 2))][::5] + [(0, 3, 1, 2, 1, 4, 0, 4), (2, 5, 3, 6, 1, 4, 3, 7)]:
+        for ring in [*all_rings(6, (0, 1, 2)), (0, 3, 1, 2, 1, 4, 0, 4), (2, 5, 3, 6, 1, 4, 3, 7)]:
             for removal in removals(ring):
-                self.assertIs(removal_holds(ring, removal), True, (ring, removal))
-                self.assertEqual(tuple(sorted((ring[valley], ring[peak]) for valley, peak in removal)), swings_of(ring))
+                self.check_shows_the_swings(ring, removal)
+
+    def test_removals_of_long_rings(self):
+        answers = set()
+        for ring in [ring for ring in mixed_rings(80) if len(ring) >= 12]:
+            for removal in mixed_removals(ring, 3):
+                self.check_shows_the_swings(ring, removal)
+                for value in with_two_exchanged(removal):
+                    expected = is_removal(ring, value)
+                    self.assertIs(removal_holds(ring, value), expected, (ring, value))
+                    answers.add(expected)
+        self.assertEqual(answers, {True, False})
 
 
 class AlikeTest(unittest.TestCase):
