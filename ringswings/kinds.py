@@ -1,4 +1,4 @@
-"""Questions about any value: is it a number, a height, a pair of numbers, a swing?"""
+"""Questions about any value: is it a number, a height, a tolerance, a pair of numbers, a swing?"""
 
 from ringswings.bounds import LIMIT
 
@@ -11,6 +11,11 @@ def is_number(value):
 def is_height(value):
     """Return whether value is a number from -LIMIT to LIMIT."""
     return is_number(value) and -LIMIT <= value <= LIMIT
+
+
+def is_tolerance(value):
+    """Return whether value is a number from 0 to LIMIT."""
+    return is_number(value) and 0 <= value <= LIMIT
 
 
 def is_number_pair(value):

@@ -1,5 +1,6 @@
 """What the document says, written as plainly as possible and without the package, to compare with."""
 
+import functools
 import itertools
 import random
 
@@ -114,6 +115,7 @@ def thresholds(rings):
     return list(itertools.combinations(sorted(numbers), 2))
 
 
+@functools.lru_cache(maxsize=None)
 def swings(ring):
     """The swings, from the numbers of passages: those that are counted at (low, high) but not farther out."""
     heights = sorted(set(ring))
@@ -180,3 +182,63 @@ def with_two_exchanged(pairs):
         one, other = pairs[at], pairs[at + 1]
         yield pairs[:at] + (other, one) + pairs[at + 2:]
         yield pairs[:at] + ((one[0], other[1]), (other[0], one[1])) + pairs[at + 2:]
+
+
+def movement(ring):
+    return sum(abs(ring[place] - ring[(place + 1) % len(ring)]) for place in range(len(ring)))
+
+
+def rings_within(ring, tolerance):
+    """All rings within the tolerance."""
+    choices = [range(max(-LIMIT, height - tolerance), min(LIMIT, height + tolerance) + 1) for height in ring]
+    return itertools.product(*choices)
+
+
+def least_of_all(ring, tolerance):
+    """The least movement and the least number of turns, by trying all rings within the tolerance."""
+    found = list(rings_within(ring, tolerance))
+    return min(map(movement, found)), min(len(turns(other)) for other in found)
+
+
+def least_by_swings(ring, tolerance):
+    """The least movement and the least number of turns, by what point 11 says of the swings."""
+    more = [high - low - 2 * tolerance for low, high in swings(ring) if high - low > 2 * tolerance]
+    return 2 * sum(more), 2 * len(more)
+
+
+def tolerances(ring):
+    """0, LIMIT, half of each range, and one more and one less than that."""
+    ranges = [high - low for low, high in swings(ring)]
+    near = [reach // 2 + by for reach in ranges for by in (-1, 0, 1, 2)]
+    return sorted({0, LIMIT} | {number for number in near if 0 <= number <= LIMIT})
+
+
+def bound_of(ring, tolerance, places):
+    """The bound of a tuple of numbers as a zigzag, or None: valleys and peaks in turn, far enough apart."""
+    count = len(places)
+    if count % 2 or any(place not in range(len(ring)) for place in places):
+        return None
+    if any(places[at] >= places[at + 1] for at in range(count - 1)):
+        return None
+    for first in (0, 1):
+        # Either the items at even indexes are the low ones, or those at odd indexes.
+        lows = [ring[places[at]] for at in range(first, count, 2)]
+        highs = [ring[places[(at + 1) % count]] for at in range(first, count, 2)]
+        rises = [high - low for low, high in zip(lows, highs)]
+        falls = [high - low for low, high in zip(lows[1:] + lows[:1], highs)]
+        if all(step > 2 * tolerance for step in rises + falls):
+            return sum(rises + falls) - 2 * tolerance * count
+    return None
+
+
+def replacements(value):
+    """The tuple with one part left out, doubled, or replaced by something near it or of another kind."""
+    for at, part in enumerate(value):
+        rest = value[:at], value[at + 1:]
+        yield rest[0] + rest[1]
+        yield rest[0] + (part, part) + rest[1]
+        for other in (None, True, False, "", str(part), [part], (part,), {}, -1, 24, 10 ** 30 - 1):
+            yield rest[0] + (other,) + rest[1]
+        if isinstance(part, int):
+            yield rest[0] + (part + 1,) + rest[1]
+            yield rest[0] + (part - 1,) + rest[1]
