@@ -242,3 +242,97 @@ def replacements(value):
         if isinstance(part, int):
             yield rest[0] + (part + 1,) + rest[1]
             yield rest[0] + (part - 1,) + rest[1]
+
+
+def twice(collection):
+    """The smallest height that occurs twice in a collection, or None."""
+    heights = [height for swing in collection for height in swing]
+    return min((height for height in heights if heights.count(height) > 1), default=None)
+
+
+def rings_in_order(collection):
+    """All rings of a distinct collection, by the words of point 10; the index of each is its place in the list."""
+    if not collection:
+        return [(0,)]
+    ordered = sorted(collection, key=lambda swing: (swing[0] - swing[1], swing))
+    found = [list(ordered[0])]
+    for low, high in ordered[1:]:
+        # Writing down the choices one after another is counting: the last choice changes fastest.
+        found = [after for ring in found for after in insertions(ring, low, high)]
+    return [tuple(ring) for ring in found]
+
+
+def insertions(ring, low, high):
+    """The lists that result if (low, high) is inserted in each run in which it can be inserted, in order."""
+    for place, start in enumerate(ring):
+        end = ring[(place + 1) % len(ring)]
+        if start < low and high < end:
+            yield ring[:place + 1] + [high, low] + ring[place + 1:]
+        if end < low and high < start:
+            yield ring[:place + 1] + [low, high] + ring[place + 1:]
+
+
+def mixed_collections(count):
+    """The same distinct collections each time, of one to twelve swings, some with heights at both limits."""
+    source = random.Random(2028)
+    for _ in range(count):
+        size = source.choice((1, 2, 3, 6, 11, 12))
+        top = source.choice((12, 30, LIMIT))
+        inner = source.sample(range(1 - top, top), 2 * size - 2)
+        pairs = [tuple(sorted(inner[at:at + 2])) for at in range(0, len(inner), 2)]
+        yield tuple(sorted([(-top, top), *pairs]))
+
+
+def is_pairing(first, second, d, pairs):
+    """Whether a tuple of pairs of numbers is a pairing, by the words of point 14."""
+    ones, others = swings(first), swings(second)
+    if any(one >= other for one, other in zip(pairs, pairs[1:])):
+        return False
+    for i, j in pairs:
+        if i not in range(len(ones)) or j not in range(len(others)):
+            return False
+        if abs(ones[i][0] - others[j][0]) > d or abs(ones[i][1] - others[j][1]) > d:
+            return False
+        if len([pair for pair in pairs if pair[0] == i]) > 1 or len([pair for pair in pairs if pair[1] == j]) > 1:
+            return False
+    missing = [at for at, (low, high) in enumerate(ones) if high - low > 2 * d and at not in dict(pairs)]
+    lacking = [at for at, (low, high) in enumerate(others)
+               if high - low > 2 * d and at not in [j for _, j in pairs]]
+    return not missing and not lacking
+
+
+def has_pairing(first, second, d):
+    """Whether there is a pairing: all sets of partners that the swings of the first ring can have are tried."""
+    ones, others = swings(first), swings(second)
+    needed = {at for at, (low, high) in enumerate(others) if high - low > 2 * d}
+    reached = {frozenset()}
+    for low, high in ones:
+        near = [at for at, other in enumerate(others) if abs(other[0] - low) <= d and abs(other[1] - high) <= d]
+        taken = {used | {at} for used in reached for at in near if at not in used}
+        reached = taken if high - low > 2 * d else taken | reached
+    return any(needed <= used for used in reached)
+
+
+def distances(first, second):
+    """All numbers that can be the distance: 0, differences of lows and of highs, and halves of ranges."""
+    ones, others = swings(first), swings(second)
+    found = {0} | {(high - low + 1) // 2 for low, high in ones + others}
+    for one, other in itertools.product(ones, others):
+        found |= {abs(one[0] - other[0]), abs(one[1] - other[1])}
+    return sorted(found)
+
+
+def distance(first, second):
+    """The least of them for which there is a pairing."""
+    return next(d for d in distances(first, second) if has_pairing(first, second, d))
+
+
+def number_texts(numbers):
+    """The texts of numbers, digit by digit."""
+    for number in numbers:
+        digits = []
+        rest = abs(number)
+        while rest or not digits:
+            digits.insert(0, "0123456789"[rest % 10])
+            rest //= 10
+        yield ("-" if number < 0 else "") + "".join(digits)

@@ -1,4 +1,4 @@
-"""The examples of points 4 to 9, 11 to 13 and 15 to 17, as the document writes them.
+"""The examples of points 4 to 19, as the document writes them.
 
 [4]
 
@@ -71,6 +71,20 @@
     >>> plain_ring((0, 5, 2, 7, 1, 3))
     (0, 3, 1, 5, 2, 7)
 
+[10]
+
+    >>> from ringswings.orders import count_rings
+    >>> count_rings(((0, 7), (1, 3), (2, 5)))
+    4
+
+    >>> from ringswings.orders import ring_at
+    >>> [ring_at(((0, 7), (1, 3), (2, 5)), 0), ring_at(((0, 7), (1, 3), (2, 5)), 3)]
+    [(0, 3, 1, 5, 2, 7), (0, 7, 2, 5, 1, 3)]
+
+    >>> from ringswings.orders import ring_index
+    >>> ring_index((5, 1, 3, 0, 7, 2))
+    3
+
 [11]
 
     >>> from ringswings.smoothing import lazy_ring
@@ -132,6 +146,20 @@
     >>> [step_effect(R, 5, 1), step_effect(R, 2, -1), step_effect((0, 1), 1, -1)]
     [('moved', (1, 3), (1, 4)), ('moved', (2, 5), (1, 5)), ('gone', (0, 1))]
 
+[14]
+
+    >>> from ringswings.pairing import find_pairing
+    >>> [find_pairing((0, 5, 2, 7), (1, 6), 2), find_pairing((0, 5, 2, 7), (1, 6), 1)]
+    [((0, 0),), None]
+
+    >>> from ringswings.pairing import pairing_holds
+    >>> [pairing_holds((0, 5, 2, 7), (1, 6), 2, ((0, 0),)), pairing_holds((0, 5, 2, 7), (1, 6), 1, ((0, 0),))]
+    [True, False]
+
+    >>> from ringswings.pairing import swing_distance
+    >>> swing_distance((0, 5, 2, 7), (1, 6))
+    2
+
 [15]
 
     >>> from ringswings.boards import Board
@@ -190,6 +218,33 @@
     >>> from ringswings.boards import CalmBoard
     >>> CalmBoard((0, 5, 4, 7), 1, 2).bounds()
     (1, 2)
+
+[18]
+
+    >>> from ringswings.texts import ring_text, swings_text
+    >>> [ring_text((0, -5, 2)), swings_text(((0, 7), (1, 3))), swings_text(())]
+    ['0 -5 2', '0..7 1..3', 'none']
+
+    >>> from ringswings.texts import parse_ring
+    >>> parse_ring('0 05')
+    raises BadText(1)
+
+    >>> from ringswings.texts import parse_swings
+    >>> parse_swings('0..3 1..7')
+    raises BadText(2)
+
+[19]
+
+    >>> from ringswings.boards import Board
+    >>> from ringswings.shells import Shell
+    >>> Shell(Board((0, 5))).execute('ring')
+    '0 5'
+
+    >>> from ringswings.boards import Board
+    >>> from ringswings.shells import Shell
+    >>> shell = Shell(Board((0, 5, 2, 7)))
+    >>> [shell.execute('swings'), shell.execute('passages 2 3'), shell.execute('put 4 1'), shell.execute('remove 1'), shell.execute('turns 0')]
+    ['0..7 2..5', '2', 'error NoPlace', 'ok 1', '2']
 """
 
 import doctest

@@ -8,12 +8,16 @@ import unittest
 
 FOLDER = pathlib.Path(__file__).parent.parent / "ringswings"
 FILES = sorted(path for path in FOLDER.rglob("*") if "__pycache__" not in path.parts)
-BUILTINS = set("""len range enumerate zip min max sum abs sorted reversed int str bool list tuple dict set isinstance ord
-    repr any all divmod super ValueError KeyError IndexError LookupError""".split())
+BUILTINS = set("""len range enumerate zip min max sum abs sorted reversed int str bool list tuple dict set isinstance
+    ord repr any all divmod super ValueError KeyError IndexError LookupError""".split())
 METHODS = set("""append clear copy count endswith extend find get index insert isalnum isalpha isdigit islower isspace
     isupper items join keys ljust lower lstrip partition pop remove replace reverse rfind rjust rpartition rsplit rstrip
-    setdefault split splitlines startswith strip update upper values zfill bit_length""".split())
-BARRED = r"\b(type|typing|enum|Enum|Flag|Generic|Protocol|ABC|namedtuple|NamedTuple|register|mro|elements|open|input)\b"
+    setdefault split splitlines startswith strip update upper values zfill bit_length isascii""".split())
+BARRED = (r"\b(type|typing|typing_extensions|enum|Enum|IntEnum|StrEnum|Flag|IntFlag|Generic|Protocol|ABC|ABCMeta"
+          r"|namedtuple|NamedTuple|TypedDict|TYPE_CHECKING|abstractmethod|register|mro|elements|open|input"
+          r"|version_info)\b|dataclass|overload|contextmanager")
+AT_ONCE = ("zip", "enumerate", "reversed", "range", "items", "keys", "values")
+TAKERS = ("list", "tuple", "dict", "sorted", "sum", "any", "all", "enumerate", "zip")
 DOUBLE = ("__init__", "__eq__", "__str__", "__len__")
 
 
@@ -95,6 +99,52 @@ class LanguageTest(unittest.TestCase):
         self.assertTrue(called <= METHODS | methods, called - METHODS - methods)
         read = {node.attr for name, node in nodes(ast.Attribute) if isinstance(node.ctx, ast.Load)}
         self.assertTrue(read <= called | stored, read - called - stored)
+
+    def called_name(self, node):
+        """The name of the function or method that a node calls, or None."""
+        if not isinstance(node, ast.Call):
+            return None
+        return node.func.attr if isinstance(node.func, ast.Attribute) else node.func.id
+
+    def test_iterated_at_once(self):
+        allowed = []
+        for name, node in nodes(ast.For, ast.comprehension, ast.Call):
+            if not isinstance(node, ast.Call):
+                allowed.append(ast.dump(node.iter, include_attributes=True))
+            elif self.called_name(node) in TAKERS and node.args:
+                allowed.extend([ast.dump(one, include_attributes=True) for one in node.args])
+        for name, node in nodes(ast.Call):
+            if self.called_name(node) in AT_ONCE:
+                self.assertIn(ast.dump(node, include_attributes=True), allowed, (name, node.lineno))
+
+    def test_sets(self):
+        self.assertEqual(nodes(ast.Set, ast.SetComp), [])
+        inside = [ast.dump(one, include_attributes=True) for name, node in nodes(ast.Call)
+                  if self.called_name(node) in ("sorted", "len") and not node.keywords for one in node.args]
+        for name, node in nodes(ast.Call):
+            if self.called_name(node) == "set":
+                self.assertIn(ast.dump(node, include_attributes=True), inside, (name, node.lineno))
+
+    def test_own_errors_are_caught_by_name(self):
+        own = {node.name for name, node in nodes(ast.ClassDef) if name == "errors.py"}
+        for name, node in nodes(ast.ExceptHandler):
+            caught = node.type.elts if isinstance(node.type, ast.Tuple) else [node.type]
+            self.assertTrue({one.id for one in caught} <= own, (name, node.lineno))
+
+    def test_names_are_bound_once_at_module_level(self):
+        for name, tree in trees():
+            bound = []
+            for part in tree.body:
+                if isinstance(part, ast.Assign):
+                    bound.extend([one.id for one in part.targets])
+                elif isinstance(part, ast.ImportFrom):
+                    bound.extend([one.asname or one.name for one in part.names])
+                elif isinstance(part, (ast.FunctionDef, ast.ClassDef)):
+                    bound.append(part.name)
+                else:
+                    self.assertIsInstance(part, ast.Expr, (name, part.lineno))
+                    self.assertIsInstance(part.value, ast.Constant, (name, part.lineno))
+            self.assertEqual(len(bound), len(set(bound)), name)
 
     def test_errors_are_created_where_they_are_raised(self):
         for name, node in nodes(ast.Raise):

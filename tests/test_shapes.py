@@ -6,7 +6,7 @@ import unittest
 from ringswings.rings import is_ring
 from ringswings.shapes import is_collection, make_ring, plain_ring
 from ringswings.swings import are_alike, swings_of
-from tests.oracles import LIMIT, all_rings, mixed_rings
+from tests.oracles import LIMIT, all_rings, mixed_collections, mixed_rings, swings
 
 
 class CollectionTest(unittest.TestCase):
@@ -70,6 +70,20 @@ class PlainRingTest(unittest.TestCase):
                     ring = make_ring(value)
                     self.assertIs(is_ring(ring), True, value)
                     self.assertEqual(swings_of(ring), value)
+
+    def test_made_rings_of_longer_collections_have_the_swings(self):
+        answers = set()
+        for value in [*mixed_collections(100), *[swings(ring) for ring in mixed_rings(100)]]:
+            # Some of the swings twice: a sorted tuple with duplicates, which may lack the one that contains all.
+            for some in (value, tuple(sorted(value[:6] * 2)), tuple(sorted(value[-6:] * 2))):
+                lowest, highest = min(some, default=(0, 0))[0], max([high for low, high in some], default=0)
+                expected = some == () or (lowest, highest) in some
+                self.assertIs(is_collection(some), expected, some)
+                answers.add(expected)
+                if expected:
+                    self.assertIs(is_ring(make_ring(some)), True, some)
+                    self.assertEqual(swings(make_ring(some)), some)
+        self.assertEqual(answers, {True, False})
 
     def test_plain_ring(self):
         self.assertEqual(plain_ring((5,)), (0,))
